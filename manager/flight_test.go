@@ -416,7 +416,31 @@ func TestCleanTicksWithoutARate(t *testing.T) {
 	f.tells("NAV-LOST: ?, tested 3")
 }
 
-// P36.5: a test ends with the ground command, with a reset, and where another one begins.
+// P36.5: a test goes on where the ground command tells once more that it is on the ground, and ends where it leaves it.
+func TestFlightTestGoesOnOnTheGround(t *testing.T) {
+	f := begin(t)
+	f.fly(off(level, 3, 5000), 1)
+	f.do(api.CmdGround, 1)
+	f.do(api.CmdAdmit, 3)
+	f.do(api.CmdGround, 1)
+	is(t, call("Test that has just begun"), f.m.Test, api.Test{Gyro: 3})
+	for clean := 1; clean < f.m.Config.Clean; clean++ {
+		f.fly(level, 1)
+		before := f.m
+		f.do(api.CmdGround, 1)
+		alike(t, call("Do", "on the ground once more", clean), f.m, before)
+		is(t, call("Test"), f.m.Test, api.Test{Gyro: 3, Clean: clean})
+		f.tells("FAIL-OP: 3, tested 3")
+		left, err := manager.Do(f.m, api.Command{Kind: api.CmdGround})
+		is(t, call("Do's error"), err, api.OK)
+		before.Ground, before.Test = false, api.Test{Gyro: -1}
+		alike(t, call("Do", "off the ground", clean), left, before)
+	}
+	f.fly(level, 1)
+	f.tells("FULL: -")
+}
+
+// P36.5: a test ends where the ground is left, with a reset, and where another one begins.
 func TestFlightTestEnds(t *testing.T) {
 	f := begin(t)
 	f.fly(off(off(level, 3, 5000), 1, 7000), 1)

@@ -268,7 +268,9 @@ func doByWords(m api.Manager, c api.Command) (api.Manager, api.Errno) {
 	}
 	switch c.Kind {
 	case 1:
-		m.Ground, m.Test = c.Arg == 1, api.Test{Gyro: -1}
+		if m.Ground = c.Arg == 1; c.Arg == 0 {
+			m.Test = api.Test{Gyro: -1}
+		}
 	case 2:
 		if !m.Ground {
 			return m, api.ErrState
@@ -802,7 +804,7 @@ func TestP5DoByHand(t *testing.T) {
 	}{
 		{out, api.Command{Kind: 1, Arg: 1}, api.OK, func(m *api.Manager) { m.Ground = true }},
 		{out, api.Command{Kind: 1, Arg: 0}, api.OK, func(m *api.Manager) {}},
-		{in, api.Command{Kind: 1, Arg: 1}, api.OK, func(m *api.Manager) { m.Test = api.Test{Gyro: -1} }},
+		{in, api.Command{Kind: 1, Arg: 1}, api.OK, func(m *api.Manager) {}}, // the test goes on
 		{in, api.Command{Kind: 1, Arg: 0}, api.OK, func(m *api.Manager) { m.Ground, m.Test = false, api.Test{Gyro: -1} }},
 		{out, api.Command{Kind: 2}, api.ErrState, nil},
 		{in, api.Command{Kind: 2}, api.OK, func(m *api.Manager) { *m = begun; m.Tick, m.Ground = 55, true }},
